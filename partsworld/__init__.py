@@ -1,0 +1,1 @@
+"""Things and their parts: see partsworld.things."""
