@@ -148,7 +148,8 @@ class PutOff(unittest.TestCase):
         self.assertEqual(ask(*calls)[1:], [[1], [0], [0, 1], [-2], [7], [2]])
 
     def test_30_put_off_do_not_hinder_other_calls(self):
-        calls = [*THIRTY, later(5, 0), make(1, 5), put(0, 0, 2, 6), take(0, 0, 1), get(0, 0, 2), parts(0, 0), gone(0, 0)]
+        others = [make(1, 5), put(0, 0, 2, 6), take(0, 0, 1), get(0, 0, 2), parts(0, 0), gone(0, 0)]
+        calls = [*THIRTY, later(5, 0), *others]
         self.assertEqual(ask(*calls)[30:], [[-5], [0, 0], [0], [0], [6], [1, 2, 6], [0]])
 
 
