@@ -3,6 +3,8 @@
 from partsworld.things import answers
 
 TOP = 4294967295
+MOST_CALLS = 40
+MOST_NUMBERS = 2400
 
 
 def make(*parts):
@@ -33,6 +35,34 @@ def later(*change):
     return [6, len(change), *change]
 
 
+def apply():
+    return [7]
+
+
+def question(all_of, none_of, one_of):
+    return [number for kinds in (all_of, none_of, one_of) for number in (len(kinds), *kinds)]
+
+
+def ask(all_of=(), none_of=(), one_of=()):
+    return [8, *question(all_of, none_of, one_of)]
+
+
+def keep(all_of=(), none_of=(), one_of=()):
+    return [9, *question(all_of, none_of, one_of)]
+
+
+def fresh(which):
+    return [10, which]
+
+
+def sum_of(kind, all_of=(), none_of=(), one_of=()):
+    return [11, kind, *question(all_of, none_of, one_of)]
+
+
+def count():
+    return [12]
+
+
 def joined(calls):
     return [number for call in calls for number in call]
 
@@ -42,19 +72,22 @@ def split(told):
     found = []
     at = 0
     while at < len(told):
-        count = told[at]
-        answer = told[at + 1:at + 1 + count]
-        if count < 1 or len(answer) != count:
+        size = told[at]
+        answer = told[at + 1:at + 1 + size]
+        if size < 1 or len(answer) != size:
             raise AssertionError(f"a count that doesn't fit at {at}: {told}")
         found.append(answer)
-        at += 1 + count
+        at += 1 + size
     return found
 
 
-def ask(*calls):
+def run(*calls):
     """One list of answers for each of the calls, all about one new world."""
-    return split(answers(joined(calls)))
+    numbers = joined(calls)
+    if len(calls) > MOST_CALLS or len(numbers) > MOST_NUMBERS:
+        raise AssertionError("more than is ever handed in")
+    return split(answers(numbers))
 
 
 def last(*calls):
-    return ask(*calls)[-1]
+    return run(*calls)[-1]

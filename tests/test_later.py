@@ -1,17 +1,17 @@
 import unittest
 
-from tests.helper import TOP, ask, get, gone, last, later, make, parts, put, take
+from tests.helper import TOP, run, get, gone, last, later, make, parts, put, take
 
 THIRTY = [later(5, word) for word in range(30)]
 
 
 class Forms(unittest.TestCase):
     def assert_taken(self, *change):
-        self.assertEqual(ask(later(*change), later(5, 0)), [[1], [2]])
+        self.assertEqual(run(later(*change), later(5, 0)), [[1], [2]])
 
     def assert_refused(self, *change):
         """Refused, with nothing put off; and so too, ahead of -5, when 30 are put off."""
-        self.assertEqual(ask(later(*change), later(5, 0)), [[-1], [1]])
+        self.assertEqual(run(later(*change), later(5, 0)), [[-1], [1]])
         self.assertEqual(last(*THIRTY, later(*change)), [-1])
 
     def test_made(self):
@@ -100,13 +100,13 @@ class Forms(unittest.TestCase):
 class HowMany(unittest.TestCase):
     def test_answers_how_many_are_put_off(self):
         calls = [later(0, 1), later(1, 0, 0), later(2, 0, 0, 1, 1), later(3, 0, 0, 1), later(4, 1, 1, 1), later(5, 1)]
-        self.assertEqual(ask(*calls), [[1], [2], [3], [4], [5], [6]])
+        self.assertEqual(run(*calls), [[1], [2], [3], [4], [5], [6]])
 
     def test_the_same_change_twice_counts_twice(self):
-        self.assertEqual(ask(later(0, 1, 2, 3), later(0, 1, 2, 3)), [[1], [2]])
+        self.assertEqual(run(later(0, 1, 2, 3), later(0, 1, 2, 3)), [[1], [2]])
 
     def test_the_30th_and_the_31st(self):
-        answered = ask(*THIRTY, later(5, 0), later(5, 0))
+        answered = run(*THIRTY, later(5, 0), later(5, 0))
         self.assertEqual(answered[:30], [[number] for number in range(1, 31)])
         self.assertEqual(answered[30:], [[-5], [-5]])
 
@@ -117,7 +117,7 @@ class HowMany(unittest.TestCase):
 
     def test_a_refused_one_does_not_count(self):
         calls = [*THIRTY[:29], later(3, 0, 0, 16), later(0, 1, 10000, 0), later(5, 0), later(5, 0)]
-        self.assertEqual(ask(*calls)[29:], [[-1], [-1], [30], [-5]])
+        self.assertEqual(run(*calls)[29:], [[-1], [-1], [30], [-5]])
 
     def test_20_things_do_not_hinder(self):
         self.assertEqual(last(*[make() for number in range(20)], later(0, 1)), [1])
@@ -133,24 +133,24 @@ class PutOff(unittest.TestCase):
         self.assertEqual(last(*calls), [1, 1, 5])
 
     def test_a_thing_made_later_takes_no_place(self):
-        self.assertEqual(ask(later(0, 1, 2, 3), parts(0, 0), make(), gone(0, 0)), [[1], [-2], [0, 0], [0]])
+        self.assertEqual(run(later(0, 1, 2, 3), parts(0, 0), make(), gone(0, 0)), [[1], [-2], [0, 0], [0]])
 
     def test_a_thing_made_later_does_not_count_among_20(self):
         calls = [*[make() for number in range(19)], later(0, 1), later(0, 2), make(), make()]
-        self.assertEqual(ask(*calls)[19:], [[1], [2], [19, 0], [-5]])
+        self.assertEqual(run(*calls)[19:], [[1], [2], [19, 0], [-5]])
 
     def test_a_name_that_does_not_live_is_not_refused(self):
         calls = [later(1, 0, 0), later(2, 5, 5, 1, 1), later(3, 0, 0, 1)]
-        self.assertEqual(ask(*calls), [[1], [2], [3]])
+        self.assertEqual(run(*calls), [[1], [2], [3]])
 
     def test_a_name_may_go_while_its_change_is_put_off(self):
         calls = [make(1, 5), later(2, 0, 0, 1, 6), gone(0, 0), make(1, 7), take(0, 0, 1), get(0, 1, 1), later(5, 0)]
-        self.assertEqual(ask(*calls)[1:], [[1], [0], [0, 1], [-2], [7], [2]])
+        self.assertEqual(run(*calls)[1:], [[1], [0], [0, 1], [-2], [7], [2]])
 
     def test_30_put_off_do_not_hinder_other_calls(self):
         others = [make(1, 5), put(0, 0, 2, 6), take(0, 0, 1), get(0, 0, 2), parts(0, 0), gone(0, 0)]
         calls = [*THIRTY, later(5, 0), *others]
-        self.assertEqual(ask(*calls)[30:], [[-5], [0, 0], [0], [0], [6], [1, 2, 6], [0]])
+        self.assertEqual(run(*calls)[30:], [[-5], [0, 0], [0], [0], [6], [1, 2, 6], [0]])
 
 
 if __name__ == "__main__":

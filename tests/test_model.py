@@ -1,23 +1,26 @@
 """Many lists of calls against the document's words, written down a second time and otherwise.
 
-The model keeps every thing that ever was, and counts where the program keeps counts.
+The model keeps every thing that ever was and every word that was given, and looks through them
+where the program keeps what it needs.
 """
 
+import copy
 import unittest
 
-from tests.helper import TOP, ask, get, gone, later, make, parts, put, take
+from tests.helper import (TOP, apply, ask, count, fresh, get, gone, keep, later, make, parts, put, run, sum_of, take)
 
 
 class Model:
     def __init__(self):
         self.ever = []
-        self.changes = 0
+        self.changes = []
+        self.kept = []
 
     def living(self):
         return [thing for thing in self.ever if thing["lives"]]
 
-    def named(self, place, turn):
-        found = [thing for thing in self.living() if thing["name"] == (place, turn)]
+    def named(self, name):
+        found = [thing for thing in self.living() if thing["name"] == tuple(name)]
         return found[0] if found else None
 
     def answer(self, call):
@@ -26,9 +29,24 @@ class Model:
             return self.make(rest[1:])
         if number == 6:
             return self.later(rest[1:])
+        if number == 7:
+            return self.apply()
+        if number == 8:
+            return self.ask(rows(rest))
+        if number == 9:
+            return self.keep(rows(rest))
+        if number == 10:
+            return self.fresh(rest[0])
+        if number == 11:
+            return self.sum_of(rest[0], rows(rest[1:]))
+        if number == 12:
+            return [len(self.living()), len(self.changes), len(self.ever) - len(self.living())]
+        return self.by_name(number, rest)
+
+    def by_name(self, number, rest):
         if number == 2 and wrong(rest[2:]):
             return [-1]
-        thing = self.named(rest[0], rest[1])
+        thing = self.named(rest[:2])
         if thing is None:
             return [-2]
         if number in (3, 4) and rest[2] not in thing["parts"]:
@@ -55,25 +73,101 @@ class Model:
             return [-1]
         if len(self.living()) == 20:
             return [-5]
+        return list(self.made(row)["name"])
+
+    def made(self, row):
         taken = {thing["name"][0] for thing in self.living()}
-        place = min(place for place in range(21) if place not in taken)
+        place = min(place for place in range(len(taken) + 1) if place not in taken)
         turn = sum(thing["name"][0] == place for thing in self.ever)
-        self.ever.append({"name": (place, turn), "parts": dict(zip(row[::2], row[1::2])), "lives": True})
-        return [place, turn]
+        thing = {"name": (place, turn), "parts": dict(zip(row[::2], row[1::2])), "lives": True}
+        self.ever.append(thing)
+        return thing
 
     def later(self, change):
         row = {0: change[2:], 1: [], 2: change[3:], 3: change[3:] + [0], 4: change[2:], 5: []}[change[0]]
         if wrong(row):
             return [-1]
-        if self.changes == 30:
+        if len(self.changes) == 30:
             return [-5]
-        self.changes += 1
-        return [self.changes]
+        self.changes.append(change)
+        return [len(self.changes)]
+
+    def apply(self):
+        before = copy.deepcopy(self.ever)
+        given = []
+        for change in self.changes:
+            self.do(change, given)
+        if len(self.living()) > 20:
+            self.ever = before
+            return [-5]
+        self.changes = []
+        words = [word for word, thing in given]
+        lasts = [(word, *thing["name"]) for at, (word, thing) in enumerate(given) if word not in words[at + 1:]]
+        return [len(self.living()), len(lasts)] + [number for told in lasts for number in told]
+
+    def do(self, change, given):
+        form, rest = change[0], change[1:]
+        if form == 0:
+            given.append((rest[0], self.made(rest[1:])))
+        elif form in (1, 2, 3):
+            self.by_name(form, rest)
+        else:
+            under = [thing for word, thing in given if word == rest[0]]
+            if under and under[-1]["lives"]:
+                self.about({4: 2, 5: 1}[form], under[-1], rest[1:])
+
+    def told(self, question):
+        must, must_not, one = [set(kinds) for kinds in question]
+        found = [thing for thing in self.living()
+                 if must <= set(thing["parts"]) and not must_not & set(thing["parts"])
+                 and (one & set(thing["parts"]) or not one)]
+        return sorted(found, key=lambda thing: thing["name"])
+
+    def ask(self, question):
+        return [-1] if unfit(question) else names([thing["name"] for thing in self.told(question)])
+
+    def keep(self, question):
+        if unfit(question):
+            return [-1]
+        if len(self.kept) == 6:
+            return [-5]
+        self.kept.append((question, []))
+        return [len(self.kept) - 1]
+
+    def fresh(self, which):
+        if which not in range(len(self.kept)):
+            return [-2]
+        question, before = self.kept[which]
+        now = [thing["name"] for thing in self.told(question)]
+        self.kept[which] = (question, now)
+        return names(sorted(set(now) - set(before))) + names(sorted(set(before) - set(now)))
+
+    def sum_of(self, kind, question):
+        if unfit(question):
+            return [-1]
+        having = [thing for thing in self.told(question) if kind in thing["parts"]]
+        return [len(having), sum(thing["parts"][kind] for thing in having)]
 
 
 def wrong(row):
     kinds, values = row[::2], row[1::2]
     return kinds != sorted(set(kinds)) or max(kinds, default=0) > 15 or max(values, default=0) > 9999
+
+
+def unfit(question):
+    return sum(len(kinds) for kinds in question) > 12 or any(kind > 15 for kinds in question for kind in kinds)
+
+
+def rows(numbers):
+    found = []
+    while numbers:
+        found.append(numbers[1:1 + numbers[0]])
+        numbers = numbers[1 + numbers[0]:]
+    return found
+
+
+def names(told):
+    return [len(told)] + [number for name in told for number in name]
 
 
 class Dice:
@@ -107,38 +201,102 @@ class Dice:
         return self.below(4), self.below(3)
 
     def change(self):
-        return self.one_of([
-            [0, self.below(3), *self.row()], [1, *self.name()], [2, *self.name(), self.kind(), self.value()],
-            [3, *self.name(), self.kind()], [4, self.below(3), self.kind(), self.value()], [5, self.one_of([0, TOP])]])
+        form = self.below(6)
+        if form == 0:
+            return [0, self.below(3), *self.row()]
+        if form == 1:
+            return [1, *self.name()]
+        if form == 2:
+            return [2, *self.name(), self.kind(), self.value()]
+        if form == 3:
+            return [3, *self.name(), self.kind()]
+        if form == 4:
+            return [4, self.below(4), self.kind(), self.value()]
+        return [5, self.one_of([0, 1, 2, TOP])]
+
+    def question(self):
+        if self.below(8) == 0:
+            sizes = self.one_of([(12, 0, 0), (0, 12, 0), (0, 0, 12), (4, 4, 4), (5, 4, 4), (0, 13, 0), (16, 16, 16)])
+            return [[self.one_of([0, 1, 2, 15]) for number in range(size)] for size in sizes]
+        return [[self.kind() for number in range(self.below(3))] for size in range(3)]
+
+    def by_name(self):
+        name = self.name()
+        return self.one_of([gone(*name), put(*name, self.kind(), self.value()), take(*name, self.kind()),
+                            get(*name, self.kind()), parts(*name)])
+
+    def making(self):
+        return make(*self.row())
+
+    def asking(self):
+        return self.one_of([ask(*self.question()), sum_of(self.kind(), *self.question()), count()])
+
+    def keeping(self):
+        return self.one_of([keep(*self.question()), fresh(0), fresh(1), fresh(self.below(7))])
+
+    def putting_off(self):
+        return later(*self.change()) if self.below(4) else apply()
 
     def call(self):
-        name = self.name()
-        return self.one_of([
-            make(*self.row()), make(*self.row()), gone(*name), put(*name, self.kind(), self.value()),
-            take(*name, self.kind()), get(*name, self.kind()), parts(*name), later(*self.change())])
+        return self.one_of([self.making, self.by_name, self.by_name, self.asking, self.keeping,
+                            self.putting_off, self.putting_off])()
+
+    def calls(self, size):
+        return [self.call() for number in range(size)]
 
 
 class AgainstTheModel(unittest.TestCase):
     def assert_as_told(self, calls):
         model = Model()
-        self.assertEqual(ask(*calls), [model.answer(call) for call in calls], calls)
+        self.assertEqual(run(*calls), [model.answer(call) for call in calls], calls)
 
     def test_calls_of_every_sort(self):
         for seed in range(1500):
             dice = Dice(seed)
-            self.assert_as_told([dice.call() for number in range(1 + dice.below(40))])
+            self.assert_as_told(dice.calls(1 + dice.below(40)))
 
     def test_a_world_that_is_nearly_full(self):
         for seed in range(300):
             dice = Dice(seed)
-            calls = [make(*dice.row()) for number in range(24)]
-            self.assert_as_told(calls + [dice.call() for number in range(16)])
+            made = [dice.making() for number in range(17 + dice.below(8))]
+            self.assert_as_told(made + dice.calls(40 - len(made)))
 
     def test_nearly_30_put_off(self):
         for seed in range(300):
             dice = Dice(seed)
-            calls = [later(*dice.change()) for number in range(34)]
-            self.assert_as_told(calls + [dice.call() for number in range(6)])
+            put_off = [later(*dice.change()) for number in range(26 + dice.below(8))]
+            self.assert_as_told(put_off + [apply()] + dice.calls(39 - len(put_off)))
+
+    def test_about_20_things_when_all_is_done(self):
+        for seed in range(300):
+            dice = Dice(seed)
+            made = [later(0, dice.below(12), *dice.row()) for number in range(18 + dice.below(5))]
+            done = [later(5, dice.below(12)) for number in range(dice.below(5))]
+            self.assert_as_told(made + done + [apply(), ask(), count(), make(), *dice.calls(9)])
+
+    def test_kept_questions_while_much_changes(self):
+        for seed in range(300):
+            dice = Dice(seed)
+            calls = [keep(), keep([1]), keep([], [2]), keep([], [], [1, 3]), *[make(1, 1, 2, 2)] * 3]
+            for number in range(8):
+                calls += [dice.by_name(), dice.putting_off(), dice.making(), fresh(dice.below(4))]
+            self.assert_as_told(calls)
+
+
+class TheDice(unittest.TestCase):
+    """The lists above are worth something only if they come to every answer and refusal."""
+
+    def test_each_call_is_answered_and_refused(self):
+        seen = set()
+        for seed in range(1500):
+            dice = Dice(seed)
+            made = [make(1, 1)] * (20 * (seed % 3 == 0)) + [later(0, 7)] * (20 * (seed % 3 == 1))
+            calls = made + dice.calls(40 - len(made))
+            seen |= {(call[0], min(answer[0], 0)) for call, answer in zip(calls, run(*calls))}
+        refusals = {0: (-1, -5), 1: (-2,), 2: (-1, -2), 3: (-2, -3), 4: (-2, -3), 5: (-2,), 6: (-1,), 7: (-5,),
+                    8: (-1,), 9: (-1,), 10: (-2,), 11: (-1,), 12: ()}
+        wanted = {(call, number) for call in refusals for number in (0, *refusals[call])}
+        self.assertEqual(wanted - seen, set())
 
 
 if __name__ == "__main__":

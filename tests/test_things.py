@@ -1,29 +1,29 @@
 import unittest
 
-from tests.helper import TOP, ask, get, gone, last, make, parts, put, take
+from tests.helper import TOP, run, get, gone, last, make, parts, put, take
 
 FULL = [make() for number in range(20)]
 
 
 class Make(unittest.TestCase):
     def test_answers_the_name(self):
-        self.assertEqual(ask(make(3, 40)), [[0, 0]])
+        self.assertEqual(run(make(3, 40)), [[0, 0]])
 
     def test_things_stand_at_places_from_0_on(self):
-        self.assertEqual(ask(make(), make(), make()), [[0, 0], [1, 0], [2, 0]])
+        self.assertEqual(run(make(), make(), make()), [[0, 0], [1, 0], [2, 0]])
 
     def test_no_parts_at_all(self):
-        self.assertEqual(ask(make(), parts(0, 0), gone(0, 0)), [[0, 0], [0], [0]])
+        self.assertEqual(run(make(), parts(0, 0), gone(0, 0)), [[0, 0], [0], [0]])
 
     def test_a_thing_without_parts_keeps_its_place(self):
-        self.assertEqual(ask(make(), make(), gone(0, 0)), [[0, 0], [1, 0], [1]])
+        self.assertEqual(run(make(), make(), gone(0, 0)), [[0, 0], [1, 0], [1]])
 
     def test_it_has_the_parts_it_is_made_with(self):
         self.assertEqual(last(make(2, 7, 3, 0, 9, 41), parts(0, 0)), [3, 2, 7, 3, 0, 9, 41])
 
     def test_each_thing_has_parts_of_its_own(self):
         calls = [make(1, 10), make(1, 20), put(0, 0, 1, 11), get(0, 0, 1), get(1, 0, 1)]
-        self.assertEqual(ask(*calls)[-2:], [[11], [20]])
+        self.assertEqual(run(*calls)[-2:], [[11], [20]])
 
     def test_lowest_and_highest_kind(self):
         self.assertEqual(last(make(0, 5, 15, 6), parts(0, 0)), [2, 0, 5, 15, 6])
@@ -73,7 +73,7 @@ class Make(unittest.TestCase):
         self.assertEqual(last(make(*rising)), [-1])
 
     def test_the_20th_and_the_21st_thing(self):
-        answered = ask(*FULL, make())
+        answered = run(*FULL, make())
         self.assertEqual(answered[:20], [[place, 0] for place in range(20)])
         self.assertEqual(answered[20], [-5])
 
@@ -84,55 +84,55 @@ class Make(unittest.TestCase):
 
     def test_there_is_room_again_when_one_is_gone(self):
         calls = [*FULL, make(), gone(13, 0), make(2, 5), make(), parts(13, 1)]
-        self.assertEqual(ask(*calls)[20:], [[-5], [19], [13, 1], [-5], [1, 2, 5]])
+        self.assertEqual(run(*calls)[20:], [[-5], [19], [13, 1], [-5], [1, 2, 5]])
 
     def test_20_living_things_count_and_not_all_that_were(self):
         calls = [call for turn in range(20) for call in (make(), gone(0, turn))]
         wanted = [answer for turn in range(20) for answer in ([0, turn], [0])]
-        self.assertEqual(ask(*calls), wanted)
+        self.assertEqual(run(*calls), wanted)
 
     def test_a_refusal_takes_no_place_and_no_turn(self):
         calls = [make(16, 0), make(1, 1), make(2, 1, 1, 1), make(), gone(1, 0), make(0, 10000), make()]
-        self.assertEqual(ask(*calls), [[-1], [0, 0], [-1], [1, 0], [1], [-1], [1, 1]])
+        self.assertEqual(run(*calls), [[-1], [0, 0], [-1], [1, 0], [1], [-1], [1, 1]])
 
     def test_a_refusal_for_20_leaves_all_as_it_was(self):
         calls = [make(1, 2), *FULL[1:], make(1, 3), parts(0, 0), gone(19, 0), make()]
-        self.assertEqual(ask(*calls)[20:], [[-5], [1, 1, 2], [19], [19, 1]])
+        self.assertEqual(run(*calls)[20:], [[-5], [1, 1, 2], [19], [19, 1]])
 
 
 class Names(unittest.TestCase):
     def test_a_place_used_again_has_one_turn_more(self):
         calls = [make(), gone(0, 0), make(), gone(0, 1), make(), gone(0, 2), make()]
-        self.assertEqual(ask(*calls)[::2], [[0, 0], [0, 1], [0, 2], [0, 3]])
+        self.assertEqual(run(*calls)[::2], [[0, 0], [0, 1], [0, 2], [0, 3]])
 
     def test_turns_are_counted_for_each_place(self):
         calls = [make(), make(), gone(1, 0), make(), gone(1, 1), make(), gone(0, 0), make(), make()]
-        self.assertEqual(ask(*calls)[3::2], [[1, 1], [1, 2], [0, 1]])
+        self.assertEqual(run(*calls)[3::2], [[1, 1], [1, 2], [0, 1]])
         self.assertEqual(last(*calls), [2, 0])
 
     def test_the_lowest_free_place_is_taken_first(self):
         calls = [make(), make(), make(), make(), gone(3, 0), gone(1, 0), gone(2, 0), make(), make(), make(), make()]
-        self.assertEqual(ask(*calls)[7:], [[1, 1], [2, 1], [3, 1], [4, 0]])
+        self.assertEqual(run(*calls)[7:], [[1, 1], [2, 1], [3, 1], [4, 0]])
 
     def test_place_0_is_used_again_too(self):
-        self.assertEqual(ask(make(), make(), gone(1, 0), gone(0, 0), make(), make())[4:], [[0, 1], [1, 1]])
+        self.assertEqual(run(make(), make(), gone(1, 0), gone(0, 0), make(), make())[4:], [[0, 1], [1, 1]])
 
     def test_the_old_name_is_refused_when_its_place_is_used_again(self):
         for call in (gone(0, 0), put(0, 0, 1, 1), take(0, 0, 1), get(0, 0, 1), parts(0, 0)):
             with self.subTest(call=call):
-                answered = ask(make(1, 5), gone(0, 0), make(1, 6), call, parts(0, 1))
+                answered = run(make(1, 5), gone(0, 0), make(1, 6), call, parts(0, 1))
                 self.assertEqual(answered[2:], [[0, 1], [-2], [1, 1, 6]])
 
     def test_the_old_name_is_refused_while_its_place_is_free(self):
         for call in (gone(0, 0), put(0, 0, 1, 1), take(0, 0, 1), get(0, 0, 1), parts(0, 0)):
             with self.subTest(call=call):
-                self.assertEqual(ask(make(1, 5), gone(0, 0), call, make())[2:], [[-2], [0, 1]])
+                self.assertEqual(run(make(1, 5), gone(0, 0), call, make())[2:], [[-2], [0, 1]])
 
     def test_the_next_name_does_not_live_ahead_of_its_making(self):
         for call in (gone(0, 1), put(0, 1, 1, 1), take(0, 1, 1), get(0, 1, 1), parts(0, 1)):
             with self.subTest(call=call):
                 self.assertEqual(last(make(1, 5), call), [-2])
-                self.assertEqual(ask(make(1, 5), gone(0, 0), call, make(), parts(0, 1))[2:], [[-2], [0, 1], [0]])
+                self.assertEqual(run(make(1, 5), gone(0, 0), call, make(), parts(0, 1))[2:], [[-2], [0, 1], [0]])
 
     def test_a_place_at_which_none_ever_was(self):
         for place in (1, 19, 20, TOP):
@@ -150,7 +150,7 @@ class Names(unittest.TestCase):
             for call in (gone(place, turn), put(place, turn, 1, 1), take(place, turn, 1),
                          get(place, turn, 1), parts(place, turn)):
                 with self.subTest(call=call):
-                    self.assertEqual(ask(make(1, 5), call, parts(0, 0))[1:], [[-2], [1, 1, 5]])
+                    self.assertEqual(run(make(1, 5), call, parts(0, 0))[1:], [[-2], [1, 1, 5]])
 
     def test_a_thing_has_none_of_the_parts_of_the_one_before_it(self):
         self.assertEqual(last(make(1, 5, 2, 6), gone(0, 0), make(2, 7), parts(0, 1)), [1, 2, 7])
@@ -159,14 +159,14 @@ class Names(unittest.TestCase):
 class Gone(unittest.TestCase):
     def test_answers_how_many_things_there_are_then(self):
         calls = [make(), make(), make(), gone(1, 0), gone(0, 0), gone(2, 0)]
-        self.assertEqual(ask(*calls)[3:], [[2], [1], [0]])
+        self.assertEqual(run(*calls)[3:], [[2], [1], [0]])
 
     def test_only_that_one_is_gone(self):
         calls = [make(1, 1), make(2, 2), make(3, 3), gone(1, 0), parts(0, 0), parts(1, 0), parts(2, 0)]
-        self.assertEqual(ask(*calls)[4:], [[1, 1, 1], [-2], [1, 3, 3]])
+        self.assertEqual(run(*calls)[4:], [[1, 1, 1], [-2], [1, 3, 3]])
 
     def test_what_is_gone_is_not_gone_again(self):
-        self.assertEqual(ask(make(), make(), gone(0, 0), gone(0, 0), gone(1, 0))[2:], [[1], [-2], [0]])
+        self.assertEqual(run(make(), make(), gone(0, 0), gone(0, 0), gone(1, 0))[2:], [[1], [-2], [0]])
 
     def test_a_refusal_adds_no_turn(self):
         self.assertEqual(last(make(), gone(0, 0), gone(0, 0), gone(0, 1), make()), [0, 1])
@@ -174,14 +174,14 @@ class Gone(unittest.TestCase):
 
 class Put(unittest.TestCase):
     def test_it_has_that_part(self):
-        self.assertEqual(ask(make(), put(0, 0, 3, 77), get(0, 0, 3))[1:], [[0], [77]])
+        self.assertEqual(run(make(), put(0, 0, 3, 77), get(0, 0, 3))[1:], [[0], [77]])
 
     def test_instead_of_one_of_that_kind(self):
-        self.assertEqual(ask(make(3, 1, 4, 2), put(0, 0, 3, 77), parts(0, 0))[1:], [[0], [2, 3, 77, 4, 2]])
+        self.assertEqual(run(make(3, 1, 4, 2), put(0, 0, 3, 77), parts(0, 0))[1:], [[0], [2, 3, 77, 4, 2]])
 
     def test_lowest_and_highest_kind_and_value(self):
         calls = [make(), put(0, 0, 15, 9999), put(0, 0, 0, 0), parts(0, 0)]
-        self.assertEqual(ask(*calls)[1:], [[0], [0], [2, 0, 0, 15, 9999]])
+        self.assertEqual(run(*calls)[1:], [[0], [0], [2, 0, 0, 15, 9999]])
 
     def test_wrong_kind_or_value_is_refused(self):
         for kind, value in ((16, 0), (0, 10000), (16, 10000), (TOP, 0), (0, TOP), (TOP, TOP)):
@@ -200,30 +200,30 @@ class Put(unittest.TestCase):
 
     def test_a_refusal_leaves_the_parts_as_they_were(self):
         calls = [make(0, 1, 5, 2), put(0, 0, 16, 3), put(0, 0, 5, 10000), put(0, 1, 5, 3), put(1, 0, 5, 3), parts(0, 0)]
-        self.assertEqual(ask(*calls)[1:], [[-1], [-1], [-2], [-2], [2, 0, 1, 5, 2]])
+        self.assertEqual(run(*calls)[1:], [[-1], [-1], [-2], [-2], [2, 0, 1, 5, 2]])
 
 
 class Take(unittest.TestCase):
     def test_it_has_it_no_more(self):
         calls = [make(3, 1, 4, 2), take(0, 0, 3), get(0, 0, 3), parts(0, 0)]
-        self.assertEqual(ask(*calls)[1:], [[0], [-3], [1, 4, 2]])
+        self.assertEqual(run(*calls)[1:], [[0], [-3], [1, 4, 2]])
 
     def test_the_last_part_taken_leaves_a_thing_that_lives(self):
-        self.assertEqual(ask(make(3, 0), take(0, 0, 3), parts(0, 0), make(), gone(0, 0))[1:], [[0], [0], [1, 0], [1]])
+        self.assertEqual(run(make(3, 0), take(0, 0, 3), parts(0, 0), make(), gone(0, 0))[1:], [[0], [0], [1, 0], [1]])
 
     def test_a_kind_it_has_not(self):
         for kind in (0, 2, 15, 16, TOP):
             with self.subTest(kind=kind):
-                self.assertEqual(ask(make(1, 5), take(0, 0, kind), parts(0, 0))[1:], [[-3], [1, 1, 5]])
+                self.assertEqual(run(make(1, 5), take(0, 0, kind), parts(0, 0))[1:], [[-3], [1, 1, 5]])
 
     def test_what_was_taken_is_not_taken_again(self):
-        self.assertEqual(ask(make(1, 5), take(0, 0, 1), take(0, 0, 1))[1:], [[0], [-3]])
+        self.assertEqual(run(make(1, 5), take(0, 0, 1), take(0, 0, 1))[1:], [[0], [-3]])
 
     def test_what_was_taken_may_be_put_on_again(self):
-        self.assertEqual(ask(make(1, 5), take(0, 0, 1), put(0, 0, 1, 6), parts(0, 0))[1:], [[0], [0], [1, 1, 6]])
+        self.assertEqual(run(make(1, 5), take(0, 0, 1), put(0, 0, 1, 6), parts(0, 0))[1:], [[0], [0], [1, 1, 6]])
 
     def test_only_from_that_thing(self):
-        self.assertEqual(ask(make(1, 5), make(1, 6), take(0, 0, 1), get(1, 0, 1))[2:], [[0], [6]])
+        self.assertEqual(run(make(1, 5), make(1, 6), take(0, 0, 1), get(1, 0, 1))[2:], [[0], [6]])
 
     def test_a_name_that_does_not_live_is_told_ahead_of_the_kind(self):
         self.assertEqual(last(make(1, 5), take(0, 1, 2)), [-2])
@@ -233,13 +233,13 @@ class Take(unittest.TestCase):
 
 class Get(unittest.TestCase):
     def test_the_value(self):
-        self.assertEqual(ask(make(1, 5, 2, 9999), get(0, 0, 1), get(0, 0, 2))[1:], [[5], [9999]])
+        self.assertEqual(run(make(1, 5, 2, 9999), get(0, 0, 1), get(0, 0, 2))[1:], [[5], [9999]])
 
     def test_a_value_of_0_is_a_value(self):
         self.assertEqual(last(make(0, 0), get(0, 0, 0)), [0])
 
     def test_it_changes_nothing(self):
-        self.assertEqual(ask(make(1, 5), get(0, 0, 1), get(0, 0, 2), parts(0, 0))[1:], [[5], [-3], [1, 1, 5]])
+        self.assertEqual(run(make(1, 5), get(0, 0, 1), get(0, 0, 2), parts(0, 0))[1:], [[5], [-3], [1, 1, 5]])
 
     def test_a_kind_it_has_not(self):
         for kind in (0, 2, 15, 16, TOP):
@@ -258,7 +258,7 @@ class Parts(unittest.TestCase):
         self.assertEqual(last(*calls), [4, 0, 4, 3, 3, 7, 5, 12, 2])
 
     def test_it_changes_nothing(self):
-        self.assertEqual(ask(make(1, 5), parts(0, 0), parts(0, 0))[1:], [[1, 1, 5], [1, 1, 5]])
+        self.assertEqual(run(make(1, 5), parts(0, 0), parts(0, 0))[1:], [[1, 1, 5], [1, 1, 5]])
 
     def test_a_name_that_does_not_live_is_refused(self):
         self.assertEqual(last(make(), parts(0, 1)), [-2])
