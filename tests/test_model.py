@@ -283,6 +283,62 @@ class AgainstTheModel(unittest.TestCase):
             self.assert_as_told(calls)
 
 
+class WithoutTheModel(unittest.TestCase):
+    """What the document promises over all calls, held against the program's own answers."""
+
+    def test_a_refusal_leaves_all_as_it_was(self):
+        for seed in range(500):
+            dice = Dice(seed)
+            made = [dice.making() for number in range(dice.one_of([0, 0, 19]))]
+            calls = made + dice.calls(40 - len(made))
+            pairs = [(call, answer) for call, answer in zip(calls, run(*calls)) if answer[0] >= 0]
+            self.assertEqual(run(*[call for call, answer in pairs]), [answer for call, answer in pairs])
+
+    def test_what_is_gone_never_comes_back(self):
+        for seed in range(300):
+            dice = Dice(seed)
+            calls = []
+            for number in range(13):
+                calls += [dice.one_of([dice.making, dice.by_name, dice.putting_off])(), apply(), ask()]
+            gone_names, before = set(), set()
+            for answer in run(*calls)[2::3]:
+                now = set(pairs_of(answer[1:]))
+                gone_names |= before - now
+                self.assertEqual(now & gone_names, set())
+                before = now
+
+    def test_told_what_came_and_went_one_knows_what_is_asked_for(self):
+        for seed in range(300):
+            dice = Dice(seed)
+            question = [[dice.below(4)] * dice.below(2) for number in range(3)]
+            calls = [keep(*question)]
+            for number in range(13):
+                calls += [dice.one_of([dice.making, dice.by_name, dice.putting_off])(), fresh(0), ask(*question)]
+            known = set()
+            answered = run(*calls)[1:]
+            for told, asked in zip(answered[1::3], answered[2::3]):
+                came = pairs_of(told[1:1 + 2 * told[0]])
+                went = pairs_of(told[2 + 2 * told[0]:])
+                self.assertEqual((set(came) & known, set(went) - known), (set(), set()))
+                known = known - set(went) | set(came)
+                self.assertEqual(sorted(known), pairs_of(asked[1:]))
+
+    def test_put_off_changes_are_as_if_done_then(self):
+        for seed in range(300):
+            dice = Dice(seed)
+            begun = [make(1, 1, 3, 3)] * 4
+            changes = [change for change in [dice.change() for number in range(15)] if change[0] < 4]
+            # The forms 1 to 3 are written just like the calls gone, put and take.
+            at_once = [make(*change[2:]) if change[0] == 0 else change for change in changes]
+            seen = [ask(), ask([1]), count(), *[parts(place, 0) for place in range(6)]]
+            put_off = run(*begun, *[later(*change) for change in changes], apply(), *seen)
+            self.assertEqual(put_off[-len(seen):], run(*begun, *at_once, *seen)[-len(seen):])
+
+
+def pairs_of(numbers):
+    return list(zip(numbers[::2], numbers[1::2]))
+
+
 class TheDice(unittest.TestCase):
     """The lists above are worth something only if they come to every answer and refusal."""
 
